@@ -342,13 +342,17 @@ func TestP301EveryShortTextIsAsTheRuleHasIt(t *testing.T) {
 	alphabet := []byte{0, 1, 2, 3, 4, 126, 127, 128, 129, 255}
 	heads := [][]byte{nil, bytes.Repeat([]byte{128}, 7), bytes.Repeat([]byte{255}, 8)}
 	for _, head := range heads {
-		for i := range 10000 {
-			b := bytes.Clone(head)
-			for k := i; k > 0; k /= 10 {
-				b = append(b, alphabet[k%10])
+		round := [][]byte{head}
+		for range 5 {
+			var longer [][]byte
+			for _, b := range round {
+				checkInts(t, b)
+				checkRaws(t, b)
+				for _, c := range alphabet {
+					longer = append(longer, append(bytes.Clone(b), c))
+				}
 			}
-			checkInts(t, b)
-			checkRaws(t, b)
+			round = longer
 		}
 	}
 }
